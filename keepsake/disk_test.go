@@ -27,7 +27,7 @@ func wantSector(t *testing.T, d *keepsake.Disk, at int, want string) {
 func wantError(t *testing.T, what string, got, want error) {
 	t.Helper()
 	if !errors.Is(got, want) || got == nil != (want == nil) {
-		t.Errorf("P4: %s: %v, want %v", what, got, want)
+		t.Errorf("%s: %v, want %v", what, got, want)
 	}
 }
 
@@ -57,11 +57,11 @@ func TestSectorsThatAreNot(t *testing.T) {
 	d := keepsake.NewDisk(4)
 	for _, at := range []int{math.MinInt, -1, 4, 5, 4096, math.MaxInt} {
 		text, err := d.Read(at)
-		wantError(t, "Read", err, keepsake.ErrArg)
+		wantError(t, "P4: Read", err, keepsake.ErrArg)
 		if text != "" {
 			t.Errorf("P1: Read(%d): %q beside an error", at, text)
 		}
-		wantError(t, "Write", d.Write(at, full("a")), keepsake.ErrArg)
+		wantError(t, "P4: Write", d.Write(at, full("a")), keepsake.ErrArg)
 	}
 	wantWaiting(t, d, 0)
 }
@@ -69,7 +69,7 @@ func TestSectorsThatAreNot(t *testing.T) {
 func TestDataThatIsNoSector(t *testing.T) {
 	d := keepsake.NewDisk(4)
 	for _, n := range []int{0, 1, 63, 65, 128, 100_000} {
-		wantError(t, "Write", d.Write(1, strings.Repeat("a", n)), keepsake.ErrArg)
+		wantError(t, "P4: Write", d.Write(1, strings.Repeat("a", n)), keepsake.ErrArg)
 	}
 	wantWaiting(t, d, 0)
 	wantSector(t, d, 1, full("\x00"))
@@ -77,9 +77,9 @@ func TestDataThatIsNoSector(t *testing.T) {
 
 func TestWriteIsSeenAndWaits(t *testing.T) {
 	d := keepsake.NewDisk(4)
-	wantError(t, "Write", d.Write(3, full("a")), nil)
+	wantError(t, "P4: Write", d.Write(3, full("a")), nil)
 	wantSector(t, d, 3, full("a"))
-	wantError(t, "Write", d.Write(3, full("b")), nil)
+	wantError(t, "P4: Write", d.Write(3, full("b")), nil)
 	wantSector(t, d, 3, full("b"))
 	wantSector(t, d, 2, full("\x00"))
 	wantWaiting(t, d, 2)
@@ -90,11 +90,11 @@ func TestWriteIsSeenAndWaits(t *testing.T) {
 
 func TestFlushMakesSafe(t *testing.T) {
 	d := keepsake.NewDisk(4)
-	wantError(t, "Flush of nothing", d.Flush(), nil)
+	wantError(t, "P4: Flush of nothing", d.Flush(), nil)
 	d.Write(0, full("a"))
 	d.Write(0, full("b"))
 	d.Write(3, full("c"))
-	wantError(t, "Flush", d.Flush(), nil)
+	wantError(t, "P4: Flush", d.Flush(), nil)
 	wantWaiting(t, d, 0)
 	d.Write(3, full("d"))
 	d.Write(1, full("e"))
@@ -169,31 +169,31 @@ func TestPlacesBeginAnew(t *testing.T) {
 func TestFuseOfExample3(t *testing.T) {
 	d := keepsake.NewDisk(4)
 	d.Fuse(2)
-	wantError(t, "Write", d.Write(0, full("a")), nil)
-	wantError(t, "Flush", d.Flush(), keepsake.ErrDown)
-	wantError(t, "Write", d.Write(1, full("b")), keepsake.ErrDown)
+	wantError(t, "P4: Write", d.Write(0, full("a")), nil)
+	wantError(t, "P4: Flush", d.Flush(), keepsake.ErrDown)
+	wantError(t, "P4: Write", d.Write(1, full("b")), keepsake.ErrDown)
 	wantWaiting(t, d, 1)
 	wantSector(t, d, 0, full("a"))
 	wantSector(t, d, 1, full("\x00"))
 	d.Crash()
 	wantSector(t, d, 0, full("\x00"))
-	wantError(t, "Write", d.Write(1, full("b")), nil)
+	wantError(t, "P4: Write", d.Write(1, full("b")), nil)
 }
 
 func TestFuseCountsOperationsOnly(t *testing.T) {
 	d := keepsake.NewDisk(4)
 	d.Fuse(3)
-	wantError(t, "Write", d.Write(4, full("a")), keepsake.ErrArg)
-	wantError(t, "Write", d.Write(0, "a"), keepsake.ErrArg)
+	wantError(t, "P4: Write", d.Write(4, full("a")), keepsake.ErrArg)
+	wantError(t, "P4: Write", d.Write(0, "a"), keepsake.ErrArg)
 	d.Read(0)
 	d.Waiting()
 	d.Sectors()
-	wantError(t, "Flush", d.Flush(), nil)
-	wantError(t, "Write", d.Write(0, full("a")), nil)
-	wantError(t, "Write", d.Write(0, full("b")), keepsake.ErrDown)
-	wantError(t, "Write", d.Write(0, "b"), keepsake.ErrArg)
-	wantError(t, "Write", d.Write(-1, full("b")), keepsake.ErrArg)
-	wantError(t, "Flush", d.Flush(), keepsake.ErrDown)
+	wantError(t, "P4: Flush", d.Flush(), nil)
+	wantError(t, "P4: Write", d.Write(0, full("a")), nil)
+	wantError(t, "P4: Write", d.Write(0, full("b")), keepsake.ErrDown)
+	wantError(t, "P4: Write", d.Write(0, "b"), keepsake.ErrArg)
+	wantError(t, "P4: Write", d.Write(-1, full("b")), keepsake.ErrArg)
+	wantError(t, "P4: Flush", d.Flush(), keepsake.ErrDown)
 	wantSector(t, d, 0, full("a"))
 	wantWaiting(t, d, 1)
 }
@@ -204,21 +204,21 @@ func TestFuseAnewAndOut(t *testing.T) {
 		d.Fuse(1)
 		d.Fuse(out)
 		for range 10 {
-			wantError(t, "Flush, the fuse out", d.Flush(), nil)
+			wantError(t, "P4: Flush, the fuse out", d.Flush(), nil)
 		}
 	}
 	d := keepsake.NewDisk(1)
 	d.Fuse(5)
 	d.Flush()
 	d.Fuse(2)
-	wantError(t, "Flush", d.Flush(), nil)
-	wantError(t, "Flush, the second fuse", d.Flush(), keepsake.ErrDown)
+	wantError(t, "P4: Flush", d.Flush(), nil)
+	wantError(t, "P4: Flush, the second fuse", d.Flush(), keepsake.ErrDown)
 	d.Crash()
 	d.Fuse(1)
 	d.Fuse(3)
-	wantError(t, "Flush", d.Flush(), nil)
-	wantError(t, "Flush", d.Flush(), nil)
-	wantError(t, "Flush, the longer fuse", d.Flush(), keepsake.ErrDown)
+	wantError(t, "P4: Flush", d.Flush(), nil)
+	wantError(t, "P4: Flush", d.Flush(), nil)
+	wantError(t, "P4: Flush, the longer fuse", d.Flush(), keepsake.ErrDown)
 }
 
 func TestDownStaysDownUpToCrash(t *testing.T) {
@@ -226,15 +226,15 @@ func TestDownStaysDownUpToCrash(t *testing.T) {
 		d := keepsake.NewDisk(1)
 		d.Write(0, full("a"))
 		d.Fuse(1)
-		wantError(t, "Flush", d.Flush(), keepsake.ErrDown)
+		wantError(t, "P4: Flush", d.Flush(), keepsake.ErrDown)
 		d.Fuse(n)
 		for range 12 {
-			wantError(t, "Flush of a disk that is down", d.Flush(), keepsake.ErrDown)
+			wantError(t, "P4: Flush of a disk that is down", d.Flush(), keepsake.ErrDown)
 		}
 		d.Fuse(n)
 		d.Crash(0)
 		for range 12 {
-			wantError(t, "Flush behind a crash", d.Flush(), nil)
+			wantError(t, "P4: Flush behind a crash", d.Flush(), nil)
 		}
 		wantSector(t, d, 0, full("a"))
 	}
@@ -244,7 +244,7 @@ func TestCrashPutsTheFuseOut(t *testing.T) {
 	d := keepsake.NewDisk(1)
 	d.Fuse(1)
 	d.Crash()
-	wantError(t, "Flush", d.Flush(), nil)
+	wantError(t, "P4: Flush", d.Flush(), nil)
 }
 
 func TestDisksKnowNothingOfEachOther(t *testing.T) {
@@ -254,9 +254,9 @@ func TestDisksKnowNothingOfEachOther(t *testing.T) {
 	d.Flush()
 	wantSector(t, e, 0, full("\x00"))
 	wantWaiting(t, e, 0)
-	wantError(t, "Flush of the other", e.Flush(), nil)
+	wantError(t, "P4: Flush of the other", e.Flush(), nil)
 	e.Crash()
-	wantError(t, "Flush", d.Flush(), keepsake.ErrDown)
+	wantError(t, "P4: Flush", d.Flush(), keepsake.ErrDown)
 }
 
 func TestWhatIsWrittenIsNotKept(t *testing.T) {
@@ -393,9 +393,9 @@ func step(t *testing.T, r *rand.Rand, d *keepsake.Disk, m *model) {
 		if r.Intn(10) == 0 {
 			data = data[1:]
 		}
-		wantError(t, "Write", d.Write(at, data), m.write(at, data))
+		wantError(t, "P4: Write", d.Write(at, data), m.write(at, data))
 	case k < 15:
-		wantError(t, "Flush", d.Flush(), m.flush())
+		wantError(t, "P4: Flush", d.Flush(), m.flush())
 	case k < 17:
 		n := r.Intn(12) - 2
 		d.Fuse(n)

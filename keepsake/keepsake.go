@@ -70,38 +70,3 @@ func Sum(text string) string {
 
 // CRC tells the CRC-32 of a text (P3).
 func CRC(text string) uint32 { return sums.CRC32(text) }
-
-// Format makes an empty archive of a disk (P8).
-func Format(d *Disk) error { return nil }
-
-// Archive is a tree, and its snapshots on a disk.
-type Archive struct{}
-
-// Mount finds the archive of a disk (P9).
-func Mount(d *Disk) (*Archive, error) { return nil, nil }
-
-// Write puts a file into the tree (P6).
-func (a *Archive) Write(path, data string) error { return nil }
-
-// Mkdir puts a directory into the tree (P6).
-func (a *Archive) Mkdir(path string) error { return nil }
-
-// Remove takes something out of the tree (P6).
-func (a *Archive) Remove(path string) error { return nil }
-
-// Snapshot keeps the tree as it is (P10).
-func (a *Archive) Snapshot(label string) (int, error) { return 0, nil }
-
-// Snapshots tells all (P10).
-func (a *Archive) Snapshots() []Info { return nil }
-
-// Read tells a file of a snapshot, or of the tree (P11).
-func (a *Archive) Read(n int, path string) (string, error) { return "", nil }
-
-// List tells what stands in a directory of a snapshot, or of the tree (P11).
-func (a *Archive) List(n int, path string) func(yield func(Entry, error) bool) {
-	return func(yield func(Entry, error) bool) {}
-}
-
-// Verify looks for damage (P12).
-func (a *Archive) Verify() error { return nil }

@@ -85,36 +85,53 @@ func TestCRC32OfEveryByteAndLength(t *testing.T) {
 	}
 }
 
-// The table is made when the first asks: none that asks at the same time may see half of it.
-func TestCRC32AskedByManyAtOnce(t *testing.T) {
-	crcTable = onceTable{}
-	var got [64]uint32
-	var start, done sync.WaitGroup
-	start.Add(1)
-	for i := range got {
-		done.Go(func() {
-			start.Wait()
-			got[i] = CRC32("123456789")
-		})
-	}
-	start.Done()
-	done.Wait()
-	for i, crc := range got {
-		if crc != 0xcbf43926 {
-			t.Errorf("P3: CRC asked by number %d: %08x", i, crc)
+// A table's words are made when the first asks: none that asks at the same time may see half of them.
+func TestTableAskedByManyAtOnce(t *testing.T) {
+	for range 50 {
+		var table Table
+		var got [16]uint32
+		var start, done sync.WaitGroup
+		start.Add(1)
+		for i := range got {
+			done.Go(func() {
+				start.Wait()
+				got[i] = table.CRC32("123456789")
+			})
+		}
+		start.Done()
+		done.Wait()
+		for i, crc := range got {
+			if crc != 0xcbf43926 {
+				t.Fatalf("P3: CRC asked by number %d: %08x", i, crc)
+			}
 		}
 	}
 }
 
-func TestCRCTableIsMadeOnce(t *testing.T) {
-	crcTable = onceTable{}
-	if crcTable.words != [16]uint32{} {
-		t.Error("Ways: the table is there ahead of the first that asks")
+func TestTableIsMadeOnceWhenAskedFor(t *testing.T) {
+	var table Table
+	if table.CRC32("") != 0 || table.words != [16]uint32{} {
+		t.Error("Ways: the words are there ahead of the first byte that asks")
 	}
-	first := crcWords()
-	crcTable.words[1]++
-	if again := crcWords(); again[1] != first[1]+1 {
-		t.Error("Ways: the table is made more than once")
+	if table.CRC32("123456789") != 0xcbf43926 {
+		t.Error("P3: CRC by a table that was not asked yet")
 	}
-	crcTable = onceTable{}
+	if table.words[8] != 0xedb88320 {
+		t.Errorf("Ways: the words are not there behind the first byte that asks: %x", table.words)
+	}
+	table.words[1]++
+	changed := table.words
+	table.CRC32("123456789")
+	if table.words != changed {
+		t.Error("Ways: the words are made more than once")
+	}
+}
+
+func TestTableTellsManyTexts(t *testing.T) {
+	var table Table
+	for _, s := range samples() {
+		if got, want := table.CRC32(s), bitByBit(s); got != want {
+			t.Fatalf("P3: CRC of %d bytes, by one table for all: %08x, want %08x", len(s), got, want)
+		}
+	}
 }
