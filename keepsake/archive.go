@@ -1,5 +1,7 @@
 package keepsake
 
+import "keepsake/sums"
+
 // Format makes an empty archive of a disk (P8).
 func Format(d *Disk) error {
 	if d.Sectors() < leastSectors {
@@ -8,15 +10,18 @@ func Format(d *Disk) error {
 	if err := wipe(d, 0); err != nil {
 		return err
 	}
-	if err := d.Write(0, headOf(d.Sectors())); err != nil {
-		return err
-	}
-	return d.Flush()
+	return writeSectors(d, 0, headOf(d.Sectors()))
 }
 
 // Archive is a tree, and its snapshots on a disk.
 type Archive struct {
-	tree tree
+	disk      *Disk
+	tree      tree
+	snapshots []snapshot
+	known     objects
+	end       tip        // behind the last record that counts
+	broken    bool       // a Snapshot was ErrDown: what stands behind end on the disk is not known any more
+	table     sums.Table // for the CRCs of all records
 }
 
 // Mount finds the archive of a disk (P9).
@@ -24,10 +29,18 @@ func Mount(d *Disk) (*Archive, error) {
 	if d.Sectors() < leastSectors || !hasHead(d) {
 		return nil, ErrFormat
 	}
-	if err := wipe(d, firstRecord); err != nil {
+	a, in := &Archive{disk: d}, newIntake()
+	a.end = eachRecord(d, &a.table, in.take)
+	a.known, a.snapshots = in.known, in.snapshots
+	last, err := a.lastTree()
+	if err != nil {
 		return nil, err
 	}
-	return &Archive{tree: newTree()}, nil
+	a.tree = last
+	if err := wipe(d, a.end.at); err != nil {
+		return nil, err
+	}
+	return a, nil
 }
 
 // Write puts a file into the tree (P6).
@@ -39,26 +52,16 @@ func (a *Archive) Mkdir(path string) error { return a.tree.mkdir(path) }
 // Remove takes something out of the tree (P6).
 func (a *Archive) Remove(path string) error { return a.tree.remove(path) }
 
-// Snapshot keeps the tree as it is (P10).
-func (a *Archive) Snapshot(label string) (int, error) { return 0, nil }
-
-// Snapshots tells all (P10).
-func (a *Archive) Snapshots() []Info { return nil }
-
 // Read tells a file of a snapshot, or of the tree (P11).
 func (a *Archive) Read(n int, path string) (string, error) {
 	names, err := namesOf(path)
 	if err != nil {
 		return "", err
 	}
-	found, err := a.find(n, names)
-	if err != nil {
-		return "", err
+	if n == 0 {
+		return a.tree.read(names)
 	}
-	if found.isDir() {
-		return "", ErrKind
-	}
-	return found.data, nil
+	return a.readKept(n, names)
 }
 
 // List tells what stands in a directory of a snapshot, or of the tree (P11): what stands there when it is gone through.
@@ -84,25 +87,18 @@ func (a *Archive) List(n int, path string) func(yield func(Entry, error) bool) {
 	}
 }
 
-// Verify looks for damage (P12).
-func (a *Archive) Verify() error { return nil }
-
-// entries tells a directory of the tree or of a snapshot.
+// entries tells a directory of a snapshot, or of the tree: all, or why not.
 func (a *Archive) entries(n int, names []string) ([]Entry, error) {
-	found, err := a.find(n, names)
-	if err != nil {
-		return nil, err
+	if n == 0 {
+		return a.tree.list(names)
 	}
-	if !found.isDir() {
-		return nil, ErrKind
-	}
-	return found.entries(), nil
+	return a.listKept(n, names)
 }
 
-// find finds what stands in the tree (n is 0) or in a snapshot, of which there are none yet.
-func (a *Archive) find(n int, names []string) (*node, error) {
-	if n != 0 {
-		return nil, ErrNone
+// Verify looks for damage (P12).
+func (a *Archive) Verify() error {
+	if at, found := a.known.firstDamaged(a.disk); found {
+		return &Fault{At: at, Err: ErrCorrupt}
 	}
-	return a.tree.find(names)
+	return nil
 }

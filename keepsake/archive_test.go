@@ -289,12 +289,12 @@ func TestTheTreeIsNotOnTheDisk(t *testing.T) {
 	d.Fuse(1)
 	d.Flush()
 	wantError(t, "P6: Write, the disk being down", a.Write("b", "x"), nil)
-	wantEntries(t, a, "", "a:1", "b:1")
+	wantEntries(t, a, 0, "", "a:1", "b:1")
 	d.Crash()
 	b := mounted(t, d)
-	wantEntries(t, b, "")
+	wantEntries(t, b, 0, "")
 	wantError(t, "P6: Mkdir", b.Mkdir("c"), nil)
-	wantEntries(t, a, "", "a:1", "b:1")
+	wantEntries(t, a, 0, "", "a:1", "b:1")
 }
 
 func TestSnapshotsThatAreNot(t *testing.T) {
@@ -304,11 +304,7 @@ func TestSnapshotsThatAreNot(t *testing.T) {
 		for path, want := range map[string]error{
 			"": keepsake.ErrNone, "a": keepsake.ErrNone, "a/b": keepsake.ErrNone, "A": keepsake.ErrPath, "/": keepsake.ErrPath,
 		} {
-			text, err := a.Read(n, path)
-			wantError(t, "P11: Read", err, want)
-			if text != "" {
-				t.Errorf("P1: %q beside an error", text)
-			}
+			wantReadError(t, a, n, path, want)
 			wantListError(t, a, n, path, want)
 		}
 	}

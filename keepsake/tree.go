@@ -56,6 +56,30 @@ func (t *tree) find(names []string) (*node, error) {
 	return at, nil
 }
 
+// read tells a file (P11).
+func (t *tree) read(names []string) (string, error) {
+	found, err := t.find(names)
+	if err != nil {
+		return "", err
+	}
+	if found.isDir() {
+		return "", ErrKind
+	}
+	return found.data, nil
+}
+
+// list tells a directory (P11).
+func (t *tree) list(names []string) ([]Entry, error) {
+	found, err := t.find(names)
+	if err != nil {
+		return nil, err
+	}
+	if !found.isDir() {
+		return nil, ErrKind
+	}
+	return found.entries(), nil
+}
+
 // place finds the directory in which a path's last name stands or would stand, and that name; the root's has none.
 func (t *tree) place(path string) (*node, string, error) {
 	names, err := namesOf(path)

@@ -12,10 +12,10 @@ import (
 	"keepsake/keepsake"
 )
 
-// listed goes through all of a directory of the tree: "name:size" of a file, "name/" of a directory.
-func listed(a *keepsake.Archive, path string) ([]string, error) {
+// listed goes through all of a directory: "name:size" of a file, "name/" of a directory.
+func listed(a *keepsake.Archive, n int, path string) ([]string, error) {
 	var all []string
-	for e, err := range a.List(0, path) {
+	for e, err := range a.List(n, path) {
 		switch {
 		case err != nil:
 			return nil, err
@@ -30,24 +30,24 @@ func listed(a *keepsake.Archive, path string) ([]string, error) {
 	return all, nil
 }
 
-func wantEntries(t *testing.T, a *keepsake.Archive, path string, want ...string) {
+func wantEntries(t *testing.T, a *keepsake.Archive, n int, path string, want ...string) {
 	t.Helper()
-	if got, err := listed(a, path); !slices.Equal(got, want) || err != nil {
-		t.Errorf("P11: List(0, %q): %q %v, want %q", path, got, err, want)
+	if got, err := listed(a, n, path); !slices.Equal(got, want) || err != nil {
+		t.Errorf("P11: List(%d, %q): %q %v, want %q", n, path, got, err, want)
 	}
 }
 
-func wantFile(t *testing.T, a *keepsake.Archive, path, want string) {
+func wantFile(t *testing.T, a *keepsake.Archive, n int, path, want string) {
 	t.Helper()
-	if got, err := a.Read(0, path); got != want || err != nil {
-		t.Errorf("P11: Read(0, %q): %q %v, want %q", path, got, err, want)
+	if got, err := a.Read(n, path); got != want || err != nil {
+		t.Errorf("P11: Read(%d, %q): %q %v, want %q", n, path, got, err, want)
 	}
 }
 
-func wantReadError(t *testing.T, a *keepsake.Archive, path string, want error) {
+func wantReadError(t *testing.T, a *keepsake.Archive, n int, path string, want error) {
 	t.Helper()
-	text, err := a.Read(0, path)
-	wantError(t, "P11: Read(0, "+strconv.Quote(path)+")", err, want)
+	text, err := a.Read(n, path)
+	wantError(t, "P11: Read("+strconv.Itoa(n)+", "+strconv.Quote(path)+")", err, want)
 	if text != "" {
 		t.Errorf("P1: %q beside an error", text)
 	}
@@ -95,7 +95,7 @@ func wantNoPath(t *testing.T, a *keepsake.Archive, path string) {
 	wantError(t, "P6: Write of too much at "+quoted, a.Write(path, strings.Repeat("x", 1537)), keepsake.ErrPath)
 	wantError(t, "P5: Mkdir of "+quoted, a.Mkdir(path), keepsake.ErrPath)
 	wantError(t, "P5: Remove of "+quoted, a.Remove(path), keepsake.ErrPath)
-	wantReadError(t, a, path, keepsake.ErrPath)
+	wantReadError(t, a, 0, path, keepsake.ErrPath)
 	wantListError(t, a, 0, path, keepsake.ErrPath)
 }
 
@@ -106,8 +106,8 @@ func TestTreeOfExample5(t *testing.T) {
 	wantError(t, "P6: Mkdir", a.Mkdir("a"), keepsake.ErrAgain)
 	wantError(t, "P6: Write", a.Write("a/b", "y"), keepsake.ErrKind)
 	wantError(t, "P6: Remove", a.Remove(""), keepsake.ErrPath)
-	wantEntries(t, a, "", "a:1")
-	wantFile(t, a, "a", "x")
+	wantEntries(t, a, 0, "", "a:1")
+	wantFile(t, a, 0, "a", "x")
 }
 
 func TestNamesOfOneByte(t *testing.T) {
@@ -118,8 +118,8 @@ func TestNamesOfOneByte(t *testing.T) {
 		mkdir(t, a, "d")
 		if strings.Contains(may, name) {
 			put(t, a, "d/"+name, "x")
-			wantFile(t, a, "d/"+name, "x")
-			wantEntries(t, a, "d", name+":1")
+			wantFile(t, a, 0, "d/"+name, "x")
+			wantEntries(t, a, 0, "d", name+":1")
 			continue
 		}
 		for _, path := range []string{name, "d/" + name, name + "/d", "d" + name, name + "d"} {
@@ -128,8 +128,8 @@ func TestNamesOfOneByte(t *testing.T) {
 		if name != "/" {
 			wantNoPath(t, a, "d"+name+"d")
 		}
-		wantEntries(t, a, "", "d/")
-		wantEntries(t, a, "d")
+		wantEntries(t, a, 0, "", "d/")
+		wantEntries(t, a, 0, "d")
 	}
 }
 
@@ -139,7 +139,7 @@ func TestNamesOfOtherRunes(t *testing.T) {
 		wantNoPath(t, a, name)
 		wantNoPath(t, a, "d/"+name)
 	}
-	wantEntries(t, a, "")
+	wantEntries(t, a, 0, "")
 }
 
 func TestNamesOfEveryLength(t *testing.T) {
@@ -166,14 +166,14 @@ func TestPathsThatAreNone(t *testing.T) {
 	} {
 		wantNoPath(t, a, path)
 	}
-	wantEntries(t, a, "", "a:1", "d/")
-	wantEntries(t, a, "d")
+	wantEntries(t, a, 0, "", "a:1", "d/")
+	wantEntries(t, a, 0, "d")
 }
 
 func TestTheRootIsAPath(t *testing.T) {
 	a := emptyArchive(t)
-	wantEntries(t, a, "")
-	wantReadError(t, a, "", keepsake.ErrKind)
+	wantEntries(t, a, 0, "")
+	wantReadError(t, a, 0, "", keepsake.ErrKind)
 	wantError(t, "P6: Write of the root", a.Write("", "x"), keepsake.ErrPath)
 	wantError(t, "P6: Write of too much at the root", a.Write("", strings.Repeat("x", 1537)), keepsake.ErrPath)
 	wantError(t, "P6: Mkdir of the root", a.Mkdir(""), keepsake.ErrPath)
@@ -185,10 +185,10 @@ func TestDotsAreNames(t *testing.T) {
 	mkdir(t, a, "..")
 	put(t, a, "../.", "x")
 	put(t, a, ".", "yy")
-	wantEntries(t, a, "", ".:2", "../")
-	wantEntries(t, a, "..", ".:1")
-	wantFile(t, a, "../.", "x")
-	wantReadError(t, a, "./..", keepsake.ErrKind)
+	wantEntries(t, a, 0, "", ".:2", "../")
+	wantEntries(t, a, 0, "..", ".:1")
+	wantFile(t, a, 0, "../.", "x")
+	wantReadError(t, a, 0, "./..", keepsake.ErrKind)
 }
 
 func TestEightNamesBehindOneAnother(t *testing.T) {
@@ -200,12 +200,12 @@ func TestEightNamesBehindOneAnother(t *testing.T) {
 		path += "/" + name
 	}
 	put(t, a, path, "deep")
-	wantFile(t, a, path, "deep")
+	wantFile(t, a, 0, path, "deep")
 	wantNoPath(t, a, path+"/a")
 	wantListError(t, a, 0, path, keepsake.ErrKind)
 	remove(t, a, path)
 	mkdir(t, a, path)
-	wantEntries(t, a, path)
+	wantEntries(t, a, 0, path)
 	wantNoPath(t, a, path+"/a")
 }
 
@@ -218,7 +218,7 @@ func TestPathsAreGoneThroughFromTheRoot(t *testing.T) {
 		"n": keepsake.ErrNone, "n/n": keepsake.ErrNone, "n/f": keepsake.ErrNone, "d/n": keepsake.ErrNone, "d/n/f": keepsake.ErrNone, "d/d/f": keepsake.ErrNone, "n/n/n/n/n/n/n/n": keepsake.ErrNone,
 		"f/n": keepsake.ErrKind, "f/f": keepsake.ErrKind, "f/n/n": keepsake.ErrKind, "d/f/n": keepsake.ErrKind, "d/f/n/n/n": keepsake.ErrKind,
 	} {
-		wantReadError(t, a, path, want)
+		wantReadError(t, a, 0, path, want)
 		wantListError(t, a, 0, path, want)
 		wantError(t, "P6: Remove("+path+")", a.Remove(path), want)
 		if path == "n" || path == "d/n" {
@@ -228,8 +228,8 @@ func TestPathsAreGoneThroughFromTheRoot(t *testing.T) {
 		wantError(t, "P6: Mkdir("+path+")", a.Mkdir(path), want)
 		wantError(t, "P6: Write of too much at "+path, a.Write(path, strings.Repeat("x", 1537)), keepsake.ErrBig)
 	}
-	wantEntries(t, a, "", "d/", "f:1")
-	wantEntries(t, a, "d", "f:1")
+	wantEntries(t, a, 0, "", "d/", "f:1")
+	wantEntries(t, a, 0, "d", "f:1")
 }
 
 func TestFilesOfEverySize(t *testing.T) {
@@ -237,8 +237,8 @@ func TestFilesOfEverySize(t *testing.T) {
 	for _, n := range []int{0, 1, 95, 96, 97, 1535, 1536} {
 		text := strings.Repeat("\xff\x00", n)[:n]
 		put(t, a, "f", text)
-		wantFile(t, a, "f", text)
-		wantEntries(t, a, "", "f:"+strconv.Itoa(n))
+		wantFile(t, a, 0, "f", text)
+		wantEntries(t, a, 0, "", "f:"+strconv.Itoa(n))
 	}
 	mkdir(t, a, "d")
 	for _, n := range []int{1537, 1600, 65536 + 5, 1 << 20} {
@@ -246,8 +246,8 @@ func TestFilesOfEverySize(t *testing.T) {
 			wantError(t, "P6: Write of too much", a.Write(path, strings.Repeat("x", n)), keepsake.ErrBig)
 		}
 	}
-	wantFile(t, a, "f", strings.Repeat("\xff\x00", 768))
-	wantEntries(t, a, "", "d/", "f:1536")
+	wantFile(t, a, 0, "f", strings.Repeat("\xff\x00", 768))
+	wantEntries(t, a, 0, "", "d/", "f:1536")
 }
 
 func TestWriteOverAFileAndADirectory(t *testing.T) {
@@ -255,13 +255,13 @@ func TestWriteOverAFileAndADirectory(t *testing.T) {
 	mkdir(t, a, "d")
 	put(t, a, "d/f", "long text")
 	put(t, a, "d/f", "")
-	wantFile(t, a, "d/f", "")
+	wantFile(t, a, 0, "d/f", "")
 	put(t, a, "d/f", "x")
-	wantEntries(t, a, "d", "f:1")
+	wantEntries(t, a, 0, "d", "f:1")
 	wantError(t, "P6: Write over a directory", a.Write("d", "x"), keepsake.ErrKind)
 	remove(t, a, "d/f")
 	wantError(t, "P6: Write over an empty directory", a.Write("d", "x"), keepsake.ErrKind)
-	wantEntries(t, a, "", "d/")
+	wantEntries(t, a, 0, "", "d/")
 }
 
 func TestMkdirWhereSomethingStands(t *testing.T) {
@@ -270,8 +270,8 @@ func TestMkdirWhereSomethingStands(t *testing.T) {
 	put(t, a, "d/f", "x")
 	wantError(t, "P6: Mkdir of a directory", a.Mkdir("d"), keepsake.ErrAgain)
 	wantError(t, "P6: Mkdir of a file", a.Mkdir("d/f"), keepsake.ErrAgain)
-	wantEntries(t, a, "d", "f:1")
-	wantFile(t, a, "d/f", "x")
+	wantEntries(t, a, 0, "d", "f:1")
+	wantFile(t, a, 0, "d/f", "x")
 }
 
 func TestRemove(t *testing.T) {
@@ -283,13 +283,13 @@ func TestRemove(t *testing.T) {
 	remove(t, a, "d/f")
 	wantError(t, "P6: Remove of a directory in which a directory stands", a.Remove("d"), keepsake.ErrBusy)
 	wantError(t, "P6: Remove of what is gone", a.Remove("d/f"), keepsake.ErrNone)
-	wantEntries(t, a, "d", "e/")
+	wantEntries(t, a, 0, "d", "e/")
 	remove(t, a, "d/e")
 	remove(t, a, "d")
 	wantError(t, "P6: Remove of what is gone", a.Remove("d"), keepsake.ErrNone)
-	wantReadError(t, a, "d", keepsake.ErrNone)
+	wantReadError(t, a, 0, "d", keepsake.ErrNone)
 	put(t, a, "d", "now a file")
-	wantFile(t, a, "d", "now a file")
+	wantFile(t, a, 0, "d", "now a file")
 }
 
 // letter is the i-th of 39 names of one byte.
@@ -364,7 +364,7 @@ func TestListIsInOrder(t *testing.T) {
 		put(t, a, name, name)
 	}
 	mkdir(t, a, "a.")
-	wantEntries(t, a, "", "-:1", ".:1", "0:1", "10:2", "9:1", "_:1", "a:1", "a-:2", "a./", "a0:2", "a_:2", "aa:2", "b:1", "z:1")
+	wantEntries(t, a, 0, "", "-:1", ".:1", "0:1", "10:2", "9:1", "_:1", "a:1", "a-:2", "a./", "a0:2", "a_:2", "aa:2", "b:1", "z:1")
 }
 
 func TestListStopsWhenNoMoreIsWanted(t *testing.T) {
@@ -425,10 +425,10 @@ func TestWhatGoesIntoTheTreeIsNotKept(t *testing.T) {
 	put(t, a, "g", unsafe.String(&data[0], 4))
 	sequence := a.List(0, unsafe.String(&path[0], 1))
 	path[0], path[2], data[0] = 'x', 'x', 'x'
-	wantEntries(t, a, "", "d/", "g:4")
-	wantEntries(t, a, "d", "f:4")
-	wantFile(t, a, "d/f", "text")
-	wantFile(t, a, "g", "text")
+	wantEntries(t, a, 0, "", "d/", "g:4")
+	wantEntries(t, a, 0, "d", "f:4")
+	wantFile(t, a, 0, "d/f", "text")
+	wantFile(t, a, 0, "g", "text")
 	for e, err := range sequence {
 		if e.Name != "f" || err != nil {
 			t.Errorf("P2: a path that was handed in is kept: %v %v", e, err)
@@ -439,9 +439,9 @@ func TestWhatGoesIntoTheTreeIsNotKept(t *testing.T) {
 func TestArchivesKnowNothingOfEachOther(t *testing.T) {
 	a, b := emptyArchive(t), emptyArchive(t)
 	put(t, a, "f", "x")
-	wantEntries(t, b, "")
+	wantEntries(t, b, 0, "")
 	mkdir(t, b, "f")
-	wantEntries(t, a, "", "f:1")
+	wantEntries(t, a, 0, "", "f:1")
 }
 
 // treeModel is P5 and P6 told over again in the simplest way: all paths, a file's with its text ahead of which stands f, a directory's with d.
@@ -513,17 +513,17 @@ func (m treeModel) remove(path string) error {
 	return nil
 }
 
-// wantModel tells that the tree is the model's.
-func wantModel(t *testing.T, a *keepsake.Archive, m treeModel) {
+// wantModel tells that the tree (n is 0) or a snapshot is the model's.
+func wantModel(t *testing.T, a *keepsake.Archive, n int, m treeModel) {
 	t.Helper()
 	dirs := []string{""}
 	for path, what := range m {
 		if what == "d" {
 			dirs = append(dirs, path)
-			wantReadError(t, a, path, keepsake.ErrKind)
+			wantReadError(t, a, n, path, keepsake.ErrKind)
 		} else {
-			wantFile(t, a, path, what[1:])
-			wantListError(t, a, 0, path, keepsake.ErrKind)
+			wantFile(t, a, n, path, what[1:])
+			wantListError(t, a, n, path, keepsake.ErrKind)
 		}
 	}
 	for _, dir := range dirs {
@@ -536,7 +536,7 @@ func wantModel(t *testing.T, a *keepsake.Archive, m treeModel) {
 				want = append(want, name+":"+strconv.Itoa(len(what)-1))
 			}
 		}
-		wantEntries(t, a, dir, want...)
+		wantEntries(t, a, n, dir, want...)
 	}
 }
 
@@ -580,7 +580,7 @@ func TestTreeAgainstModel(t *testing.T) {
 				wantError(t, "P6: Remove("+quoted+")", a.Remove(path), m.remove(path))
 			}
 			if i%100 == 99 {
-				wantModel(t, a, m)
+				wantModel(t, a, 0, m)
 			}
 			if t.Failed() {
 				t.Fatalf("seed %d, step %d", seed, i)
