@@ -33,6 +33,7 @@ type paper struct {
 	number  uint32
 	crc     uint32
 	first   []int // each record's first sector
+	records []rec
 }
 
 func newPaper(sectors int) *paper {
@@ -49,6 +50,7 @@ func (p *paper) lay(r rec) {
 	begin := string([]byte{byte(len(r.text) >> 8), byte(len(r.text)), r.kind}) + four(p.number)
 	p.crc = crc32.ChecksumIEEE([]byte(four(p.crc) + begin + r.text))
 	p.raw(begin + four(p.crc) + r.text)
+	p.records = append(p.records, r)
 }
 
 // raw lays bytes down as if they were a record, with 0 up to the sector's end.
