@@ -12,7 +12,7 @@ type shape struct {
 type intake struct {
 	known     objects
 	snapshots []snapshot
-	shapes    map[sums.Sum]shape // of the directories
+	shapes    map[sums.Sum]shape // of the directories that are known
 }
 
 func newIntake() *intake {
@@ -24,22 +24,30 @@ func (in *intake) take(r record) bool {
 	if r.kind == snapshotKind {
 		return in.takeSnapshot(r.text)
 	}
-	sum := sums.SHA256(r.text)
-	if !in.isObject(r.kind, sum, r.text) {
+	return in.takeObject(r, sums.SHA256(r.text))
+}
+
+// takeObject takes in a record of the object with this Sum. Each record of an object must be as P7 says, but all that is remembered is the first one's: a later one may have another text.
+func (in *intake) takeObject(r record, sum sums.Sum) bool {
+	whole, ok := in.measure(r.kind, r.text)
+	if !ok {
 		return false
 	}
-	in.known.add(r.kind, sum, object{at: r.at, size: len(r.text)})
+	if in.known.add(r.kind, sum, object{at: r.at, size: len(r.text)}) && r.kind == dirKind {
+		in.shapes[sum] = whole
+	}
 	return true
 }
 
-func (in *intake) isObject(kind byte, sum sums.Sum, text string) bool {
+// measure tells the shape that an object of this kind and text has, and whether there may be one; chunks and files have none.
+func (in *intake) measure(kind byte, text string) (shape, bool) {
 	switch kind {
 	case chunkKind:
-		return len(text) >= 1 && len(text) <= chunkSize
+		return shape{}, len(text) >= 1 && len(text) <= chunkSize
 	case fileKind:
-		return in.isFile(text)
+		return shape{}, in.isFile(text)
 	}
-	return in.isDir(sum, text)
+	return in.measureDir(text)
 }
 
 func (in *intake) isFile(text string) bool {
@@ -56,16 +64,15 @@ func (in *intake) isFile(text string) bool {
 	return true
 }
 
-// isDir remembers the directory's shape, for the snapshots that may come.
-func (in *intake) isDir(sum sums.Sum, text string) bool {
+func (in *intake) measureDir(text string) (shape, bool) {
 	links, ok := linksOf(text)
 	if !ok {
-		return false
+		return shape{}, false
 	}
 	var whole shape
 	for _, l := range links {
 		if !in.known.has(l.kind, l.sum) {
-			return false
+			return shape{}, false
 		}
 		var below shape
 		if l.kind == dirKind {
@@ -74,8 +81,7 @@ func (in *intake) isDir(sum sums.Sum, text string) bool {
 		whole.deep = max(whole.deep, below.deep+1)
 		whole.names = min(whole.names+below.names+1, mostInTree+1) // what is shared counts wherever it stands: the number itself may be past all bounds
 	}
-	in.shapes[sum] = whole
-	return true
+	return whole, true
 }
 
 func (in *intake) takeSnapshot(text string) bool {

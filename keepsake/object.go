@@ -28,11 +28,13 @@ func (o objects) has(kind byte, sum sums.Sum) bool {
 	return ok
 }
 
-// add takes an object's record in, but of several the first alone.
-func (o objects) add(kind byte, sum sums.Sum, found object) {
-	if !o.has(kind, sum) {
-		o[kind][sum] = found
+// add takes an object's record in, but of several the first alone, and tells whether this is that one.
+func (o objects) add(kind byte, sum sums.Sum, found object) bool {
+	if o.has(kind, sum) {
+		return false
 	}
+	o[kind][sum] = found
+	return true
 }
 
 // addAll takes in what stands behind all that is known already.

@@ -20,10 +20,9 @@ type draft struct {
 // object lays an object's record down, unless there is one, and tells its Sum.
 func (w *draft) object(kind byte, text string) sums.Sum {
 	sum := sums.SHA256(text)
-	if w.known.has(kind, sum) || w.fresh.has(kind, sum) {
+	if w.known.has(kind, sum) || !w.fresh.add(kind, sum, object{at: w.end.at, size: len(text)}) {
 		return sum
 	}
-	w.fresh.add(kind, sum, object{at: w.end.at, size: len(text)})
 	whole, end := w.end.lay(kind, text, w.table)
 	w.whole.WriteString(whole)
 	w.end = end
